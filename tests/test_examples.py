@@ -1,0 +1,86 @@
+"""Each example of the document, as it stands there."""
+
+import unittest
+
+EXAMPLES = r"""
+>>> from wordshapes.shapes import corner_rows, first_lighter, flipped, heavier, holds, hook, outer_rows, shapes_of, steps_down
+>>> from wordshapes.shapes import with_box, with_columns, with_strips, without_box
+>>> [shapes_of(4), flipped((3, 2)), holds((3, 2), (2, 2)), corner_rows((3, 3, 1)), outer_rows((3, 3, 1)), with_box((3, 3, 1), 2), without_box((3, 3, 1), 1), hook((3, 2), 0, 1)]
+[((4,), (3, 1), (2, 2), (2, 1, 1), (1, 1, 1, 1)), (2, 2, 1), True, (1, 2), (0, 2, 3), (3, 3, 2), (3, 2, 1), 3]
+>>> [heavier((3, 1, 1), (2, 2, 1)), heavier((3, 1, 1, 1), (2, 2, 2)), first_lighter((3, 1, 1, 1), (2, 2, 2)), first_lighter((4, 1), (3, 2)), with_strips((2, 1), 2), with_columns((2, 1), 2)]
+[True, False, 3, None, ((4, 1), (3, 2), (3, 1, 1), (2, 2, 1)), ((3, 2), (3, 1, 1), (2, 2, 1), (2, 1, 1, 1))]
+>>> steps_down((3, 1), (2, 2))
+((3, 1), (2, 2))
+>>> from wordshapes.words import amounts, descents, inverse, standing, turned, word_in, word_text
+>>> [amounts((3, 1, 2, 1)), standing((3, 1, 2, 1)), inverse((4, 1, 3, 2)), descents((3, 1, 2, 1)), amounts((4, 4))]
+[(2, 1, 1), (4, 1, 3, 2), (2, 4, 3, 1), (0, 2), (0, 0, 0, 2)]
+>>> [turned((3, 1, 2, 1), 3), turned((3, 1), 12), word_text((3, 12, 1)), word_in("3.12.1"), word_text(()), word_in("-")]
+[(3, 2, 3, 1), (12, 10), '3.12.1', (3, 12, 1), '-', ()]
+>>> from wordshapes.tables import Table
+>>> small = Table.of((3, 1, 2, 1))
+>>> [small.rows, small.shape, small.word, small.amounts, small.text, small.standard, repr(Table(()))]
+[((1, 1), (2,), (3,)), (2, 1, 1), (3, 2, 1, 1), (2, 1, 1), '1.1/2/3', False, "Table('-')"]
+>>> [small.put(2).text, small.put_by_columns(1).text, small.put_by_columns(3).text, small.taken(0)[0].text, small.taken(2)[0].text, small.taken(2)[1]]
+['1.1.2/2/3', '1.1.1/2/3', '1.1/2.3/3', '1/2/3', '1.2/3', 1]
+>>> [Table.of((2,)).times(Table.of((1, 2))).text, small.part(2).text, small.part(0).text, Table(((1, 3), (2,))).standard]
+['1.2/2', '1.1/2', '-', True]
+>>> from wordshapes.moves import alike, chain, class_count, class_of, moved, moves
+>>> [moves((3, 1, 2, 1)), moved((3, 1, 2, 1), 0), moved((3, 1, 2, 1), 1), alike((3, 1, 2, 1), (1, 3, 2, 1)), chain((3, 1, 2, 1), (3, 2, 1, 1)) is None, chain((1, 2), (2, 1))]
+[(0, 1), (1, 3, 2, 1), (3, 2, 1, 1), True, False, None]
+>>> [class_of((3, 1, 2, 1)), class_count((3, 1, 2, 1)), class_count((1, 4, 2, 5, 3, 6)), class_of(()), chain((5, 5), (5, 5))]
+[((1, 3, 2, 1), (3, 1, 2, 1), (3, 2, 1, 1)), 3, 9, ((),), ()]
+>>> from wordshapes.pairs import array_of, array_of_matrix, exchanged, matrix_of, pair_of, pair_of_array, word_of
+>>> from wordshapes.tables import Table
+>>> [pair_of((3, 1, 2, 1))[0].text, pair_of((3, 1, 2, 1))[1].text]
+['1.1/2/3', '1.3/2/4']
+>>> [word_of(Table(((1, 1), (2,), (3,))), Table(((1, 3), (2,), (4,)))), array_of(Table(((1, 2), (2, 3))), Table(((1, 1), (2, 2)))), exchanged(((1, 2), (1, 3), (2, 1), (2, 2)))]
+[(3, 1, 2, 1), ((1, 2), (1, 3), (2, 1), (2, 2)), ((1, 2), (2, 1), (2, 2), (3, 1))]
+>>> [pair_of_array(((1, 2), (2, 1), (2, 2), (3, 1)))[0].text, pair_of_array(((1, 2), (2, 1), (2, 2), (3, 1)))[1].text, array_of_matrix(((0, 1), (2, 0))), matrix_of(((1, 2), (2, 1), (2, 1)), 2, 3)]
+['1.1/2.2', '1.2/2.3', ((1, 2), (2, 1), (2, 1)), ((0, 1, 0), (2, 0, 0))]
+>>> from wordshapes.lots import cover, falling_lots, falling_total, rising_cover, rising_lots, rising_total
+>>> mid = (2, 1, 3, 1, 2)
+>>> [rising_total(mid, 1), rising_total(mid, 2), falling_total(mid, 1), falling_total(mid, 2), falling_total(mid, 3), rising_lots(mid, 1), rising_total((), 4), rising_lots((), 2), cover((), 1)]
+[3, 5, 2, 4, 5, ((1, 3, 4),), 0, ((), ()), ()]
+>>> [len(cover(mid, 1)), len(rising_lots(mid, 2)), len(falling_lots(mid, 3))]
+[3, 2, 3]
+>>> from wordshapes.skews import Skew
+>>> bent = Skew((1,), ((2,), (1, 3)))
+>>> [bent.outer, bent.word, bent.amounts, bent.text, Skew((2, 1), ((3,), (1,), (2,))).word, Skew((2,), ((),)).text, Skew((), ()).text]
+[(2, 2), (1, 3, 2), (1, 1, 1), '_.2/1.3', (2, 1, 3), '_._', '-']
+>>> Skew((1,), ((2,), (3, 1)))
+raises InvalidRows(given=((2,), (3, 1)))
+>>> from wordshapes.slides import beside, rectified, rectified_by, slid_in, slid_out, staircase
+>>> [slid_in(bent, 0).rows, slid_out(Skew((), ((1, 2), (3,))), 1) == bent, slid_out(Skew((), ((1, 2), (3,))), 2).text, rectified(bent).rows, staircase((2, 1, 3)).text]
+[((1, 2), (3,)), True, '_.2/1/3', ((1, 2), (3,)), '_._.3/_.1/2']
+>>> [rectified(staircase((2, 1, 3))).rows, rectified_by(staircase((2, 1, 3)), (1, 0, 0)).rows, beside(Table(((1, 2),)), Table(((1,), (3,)))).text, rectified(beside(Table(((1, 2),)), Table(((1,), (3,))))).rows]
+[((1, 3), (2,)), ((1, 3), (2,)), '_._.1/_._.3/1.2', ((1, 1, 3), (2,))]
+>>> slid_in(bent, 1)
+raises InvalidRow(given=1)
+"""
+
+
+def told(source, names):
+    """What an example tells, written as in the document."""
+    try:
+        return repr(eval(source, names))
+    except Exception as error:  # an example may be one of an error
+        given = ", ".join(f"{name}={value!r}" for name, value in vars(error).items())
+        return f"raises {error.__class__.__name__}({given})"
+
+
+class Examples(unittest.TestCase):
+    def test_examples(self):
+        names, lines = {}, EXAMPLES.strip().split("\n")
+        looked_at = 0
+        for line, behind in zip(lines, lines[1:] + [">>>"]):
+            source = line.removeprefix(">>> ")
+            if line != source and behind.startswith(">>>"):
+                exec(source, names)
+            elif line != source:
+                looked_at += 1
+                self.assertEqual(told(source, names), behind, source)
+        self.assertEqual(looked_at, 20)
+
+
+if __name__ == "__main__":
+    unittest.main()

@@ -1,0 +1,138 @@
+"""Values that are wrong in the place of an argument, kind by kind, and a look for the errors that they raise."""
+
+from itertools import product
+
+from wordshapes.skews import Skew
+from wordshapes.tables import Table
+
+HUGE = 10 ** 5000
+TABLE = Table(((1, 1, 3), (2,)))
+SKEW = Skew((1,), ((2,), (1, 3)))
+DEEP = ((((((((((1,),),),),),),),),),)
+
+
+class Stranger:
+    """Of a class that the package does not know; it says that it is equal to everything."""
+
+    rows = ((1,),)
+    shape = (1,)
+    word = (1,)
+    inner = ()
+
+    def __eq__(self, other):
+        return True
+
+    def __len__(self):
+        return 1
+
+    def __getitem__(self, at):
+        return 1
+
+
+def a_function(value):
+    return value
+
+
+NO_NUMBERS = [
+    None, True, False, "", "1", "-", b"", b"\x01", [], [1], {}, {1: 1}, set(), {1}, frozenset({1}), range(2), 1j,
+    (), (1,), (1, 1), ((1,),), TABLE, SKEW, Table, a_function, Stranger(), object(), Ellipsis, NotImplemented, DEEP,
+]
+NO_TUPLES = [
+    None, True, False, "", "1", "2.1", "-", b"", b"\x01", b"\x02\x01", [], [1], [2, 1], [[1]], [(1,)], {}, {1: 1}, {(1,): 1},
+    set(), {1}, frozenset({1}), range(2), range(1, 3), 0, 1, 2, -1, HUGE, -HUGE, 1j, SKEW, Skew, Table, a_function,
+    Stranger(), object(), Ellipsis, NotImplemented, "a" * 4000, "2.1\n", [None], ["1"],
+]
+NO_LETTERS_IN = [
+    (0,), (13,), (-1,), (HUGE,), (-HUGE,), (True,), (False,), (None,), ("1",), (b"\x01",), ([1],), ((1,),), ((),), ({},),
+    (1, 2, "3"), (1, True), (2, 1, 0), (13, 1), (1, 2, None), (Stranger(),), (1j,), DEEP,
+]
+
+WORDS = NO_TUPLES + NO_LETTERS_IN + [TABLE, (1,) * 13, tuple(range(1, 14)), (1,) * 10000, ((1, 1), (2,))]
+
+
+def numbers(low, high):
+    """What is no integer from the one number to the other one."""
+    return NO_NUMBERS + [low - 1, high + 1, -100, 100, HUGE, -HUGE]
+
+
+LETTERS = numbers(1, 12)
+
+
+def shapes(most):
+    """What is no shape of so many boxes at most."""
+    return NO_TUPLES + [
+        TABLE, (0,), (2, 0), (0, 2), (1, 2), (3, 1, 2), (2, -1), (-1,), (True,), (2, True), (False,), (None,), (2, None),
+        ("2",), (2, "1"), ((2,),), ([2],), ({},), (2, (1,)), (HUGE,), (-HUGE,), (HUGE, 1), (1, HUGE), (1j,), (Stranger(),),
+        (most + 1,), (1,) * (most + 1), (most, 1), (1,) * 10000, (2, 1, 1, 0), DEEP,
+    ]
+
+
+NO_TABLES = NO_TUPLES + [(), (1,), ((1, 1), (2,)), ((1,),), TABLE.rows, TABLE.word, DEEP]
+NO_SKEWS = [value for value in NO_TABLES if value is not SKEW] + [TABLE, (SKEW.inner, SKEW.rows)]
+
+# Nearly a table, or not even that.
+ROWS = [value for value in NO_TUPLES if value is not TABLE] + [
+    TABLE, (1,), (1, 2), ((),), ((1,), ()), ((), (1,)), ((1,), (2, 3)), ((2, 1),), ((1, 3, 2),), ((1, 2), (1,)), ((1, 2), (2, 2)),
+    ((2,), (1,)), ([1, 1], [2]), ([1],), ((1,), [2]), ["1"], ("1",), ("12",), (b"\x01",), ((1,),) * 2, ((0,),), ((13,),), ((True,),),
+    ((1, True),), ((None,),), (None,), ((1, None),), (("1",),), (((1,),),), ((1,) * 13,), tuple((k,) for k in range(1, 14)),
+    ((1,) * 7, (2,) * 6), ((HUGE,),), ((-HUGE,),), ((1, HUGE),), ((-1,),), ({},), ({1: 1},), ((),) * 5000, (TABLE,), DEEP,
+]
+
+
+def raised(action, *given, **named):
+    """What calling a function raises; None if nothing."""
+    try:
+        action(*given, **named)
+    except Exception as error:  # whatever it is, a test looks at it
+        return error
+    return None
+
+
+def look_at(test, error, wanted, value):
+    """Whether an error is just of the wanted class, with the very value that was given."""
+    test.assertIs(error.__class__, wanted, (error.__class__, "for a value of", value.__class__))
+    test.assertIs(error.given, value)
+
+
+def look_for_errors(test, action, *parameters):
+    """Gives wrong values for one argument and for several at once, by place and by name.
+
+    A parameter is (name, right value, [(error, wrong values), ..]).
+    """
+    names = [name for name, _, _ in parameters]
+    right = [value for _, value, _ in parameters]
+    test.assertIsNone(raised(action, *right))
+    for at, (_, _, errors) in enumerate(parameters):
+        for wanted, values in errors:
+            for value in values:
+                given = right[:at] + [value] + right[at + 1:]
+                look_at(test, raised(action, *given), wanted, value)
+                look_at(test, raised(action, **dict(zip(names, given))), wanted, value)
+    for faulty in product([False, True], repeat=len(parameters)):
+        if sum(faulty) > 1:
+            look_at_several(test, action, parameters, faulty)
+
+
+def look_at_several(test, action, parameters, faulty):
+    """Wrong values in several places: the error of the first of them has to come."""
+    choices = [
+        [pair for error, values in errors for pair in product([error], samples(values))] if wrong else [(None, right)]
+        for wrong, (_, right, errors) in zip(faulty, parameters)
+    ]
+    first = faulty.index(True)
+    for chosen in product(*choices):
+        given = [value for _, value in chosen]
+        look_at(test, raised(action, *given), chosen[first][0], given[first])
+
+
+def samples(values):
+    """A few of many values."""
+    return values if len(values) < 5 else values[:2] + values[len(values) // 2:len(values) // 2 + 2] + values[-1:]
+
+
+def same_by_name(test, action, **named):
+    """Whether a call tells the same by place, by name and by names in another order, and what it tells."""
+    told = action(*named.values())
+    test.assertEqual(action(**named), told)
+    test.assertEqual(action(**dict(reversed(list(named.items())))), told)
+    return told

@@ -1,0 +1,1 @@
+"""Wordshapes: words, the tables that they grow, and sums of shapes."""

@@ -1,0 +1,10 @@
+"""How great, long and many things may be."""
+
+MOST_LETTER = 12
+MOST_LONG = 12
+MOST_HOLES = 66
+MOST_BOXES = 40
+MOST_DEGREE = 8
+MOST_ROWS = 4
+MOST_MOVED = 9
+MOST_LISTED = 2000
