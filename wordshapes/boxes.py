@@ -31,3 +31,8 @@ def columns_of(shape):
     """How many boxes the columns have."""
     wide = shape[0] if shape else 0
     return tuple([len([part for part in shape if part > column]) for column in range(wide)])
+
+
+def holes_ahead(inner, many):
+    """How many holes of an inner shape stand ahead in each of so many rows."""
+    return inner + (0,) * (many - len(inner))

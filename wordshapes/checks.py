@@ -1,5 +1,6 @@
 """Tells integers, letters, words, shapes and rows from other values, and raises the errors for these."""
 
+from wordshapes.boxes import holes_ahead
 from wordshapes.errors import InvalidLetter, InvalidNumber, InvalidShape, InvalidWord
 from wordshapes.limits import MOST_LETTER, MOST_LONG
 
@@ -57,7 +58,7 @@ def is_filled(inner, rows):
         return False
     if sum([len(row) for row in rows]) > MOST_LONG or len(rows) < len(inner):
         return False
-    holes = inner + (0,) * (len(rows) - len(inner))
+    holes = holes_ahead(inner, len(rows))
     outer = tuple([wide + len(row) for wide, row in zip(holes, rows)])
     if not is_shape(outer, sum(outer)) or not all([rises_slowly(row) for row in rows]):
         return False

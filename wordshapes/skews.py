@@ -1,5 +1,6 @@
 """Skews: rows of letters behind rows of holes."""
 
+from wordshapes.boxes import holes_ahead
 from wordshapes.checks import check_shape, is_filled
 from wordshapes.errors import InvalidRows, NotASkew
 from wordshapes.limits import MOST_HOLES
@@ -30,11 +31,6 @@ def check_skew(value):
     """Raises an error for what is no skew."""
     if not isinstance(value, Skew):
         raise NotASkew(value)
-
-
-def holes_ahead(inner, many):
-    """How many holes stand ahead of the letters in each of so many rows."""
-    return inner + (0,) * (many - len(inner))
 
 
 def text_of_rows(holes, rows):

@@ -1,10 +1,10 @@
 """Slides of skews: inward, until there is a table, and outward."""
 
-from wordshapes.boxes import box_less, box_more, corners_of, outers_of
+from wordshapes.boxes import box_less, box_more, corners_of, holes_ahead, outers_of
 from wordshapes.checks import check_word, is_among
 from wordshapes.errors import InvalidHoles, InvalidRow, TooMany
 from wordshapes.limits import MOST_HOLES, MOST_LONG
-from wordshapes.skews import Skew, check_skew, holes_ahead
+from wordshapes.skews import Skew, check_skew
 from wordshapes.tables import Table, check_table
 
 
