@@ -56,6 +56,54 @@ raises InvalidRows(given=((2,), (3, 1)))
 [((1, 3), (2,)), ((1, 3), (2,)), '_._.1/_._.3/1.2', ((1, 1, 3), (2,))]
 >>> slid_in(bent, 1)
 raises InvalidRow(given=1)
+>>> from wordshapes.turns import demoted, evacuated, period, promoted, promoted_often, toggled
+>>> low, square = Table(((1, 2), (3,))), Table(((1, 2), (3, 4)))
+>>> [toggled(Table(((1, 1, 1), (2,))), 1).rows, toggled(low, 1) == low, toggled(low, 2).rows, promoted(low, 3).rows, demoted(promoted(low, 3), 3) == low, evacuated(low, 3).rows, promoted(low, 4).rows]
+[((1, 2, 2), (2,)), True, ((1, 3), (2,)), ((1, 3), (2,)), True, ((1, 3), (2,)), ((1, 4), (2,))]
+>>> [period(low, 3), period(square, 4), promoted(square, 4).rows, promoted_often(square, 4, 2000) == square, evacuated(square, 4) == square, period(Table(((1, 1),)), 3)]
+[2, 2, ((1, 3), (2, 4)), True, True, 3]
+>>> from wordshapes.strings import ends, highest, is_highest, lowered, lowest, mirrored, one_web, raised, way_up, web_of
+>>> [ends(mid, 1), ends(mid, 2), ends(mid, 3), raised(mid, 1), lowered(mid, 1), lowered(mid, 2), mirrored((2, 1, 1, 1, 2), 1), highest(mid), way_up(mid), is_highest((2, 1, 2, 1, 1))]
+[(1, 1), (0, 1), (0, 1), (2, 1, 3, 1, 1), (2, 1, 3, 2, 2), (3, 1, 3, 1, 2), (2, 1, 1, 2, 2), (2, 1, 2, 1, 1), (1, 2), True]
+>>> [web_of((1, 2, 1), 2), lowest((1, 2, 1), 3), one_web((1, 2, 1), (2, 1, 1)), one_web((1, 2, 1), (2, 3, 2)), len(web_of((2, 1), 4))]
+[((1, 2, 1), (2, 2, 1)), (3, 3, 2), False, True, 6]
+>>> from wordshapes.growths import growth_at, growth_count, growth_descents, growth_index, growth_of, table_of
+>>> [growth_of(Table(((1, 3), (2,)))), table_of((0, 0, 1)).rows, growth_count((2, 1)), growth_count((3, 2, 1)), growth_count((20, 20)), growth_count(()), growth_at((2, 1), 0), growth_at((2, 1), 1), growth_index((0, 1, 0)), growth_descents((0, 1, 0)), growth_descents((0, 0, 1, 1))]
+[(0, 1, 0), ((1, 2), (3,)), 2, 16, 6564120420, 1, (0, 0, 1), (0, 1, 0), 1, (1,), (2,)]
+>>> growth_of(Table(((1, 1),)))
+raises NotStandard()
+>>> from wordshapes.counts import letter_count, margin_count, own_inverse_count, table_count, tables_with, zero_one_count
+>>> [table_count((2, 1), (1, 1, 1)), table_count((3, 1), (1, 1, 2)), table_count((2, 2), (0, 2, 2)), table_count((2, 1), (3,)), letter_count((2, 1), 3), letter_count((2, 2), 3), letter_count((1, 1, 1), 2), letter_count((), 5)]
+[2, 2, 1, 0, 8, 6, 0, 1]
+>>> [tables_with((2, 1), (1, 1, 1)) == (Table(((1, 2), (3,))), Table(((1, 3), (2,)))), margin_count((2, 1), (1, 2)), margin_count((1, 1, 1), (1, 1, 1)), zero_one_count((2, 1), (1, 2)), own_inverse_count(4), own_inverse_count(5), own_inverse_count(0)]
+[True, 2, 6, 1, 10, 26, 1]
+>>> from wordshapes.ribbons import center, character, cycle_weight, ribbons
+>>> [ribbons((3, 2), 2), ribbons((3, 2), 4), ribbons((2, 1), 3), ribbons((2, 1), 2), character((2, 1), (1, 1, 1)), character((2, 1), (2, 1)), character((2, 1), (3,)), character((2, 2), (2, 2)), character((2, 2), (3, 1)), character((), ())]
+[(((3,), 0),), (((1,), 1),), (((), 1),), (), 2, 0, -1, 2, -1, 1]
+>>> [center((3, 2), 2), center((2, 1), 2), center((3, 2), 1), cycle_weight((2, 1, 1)), cycle_weight((2, 2)), cycle_weight((3,)), cycle_weight(()), character((20, 20), (1,) * 40) == growth_count((20, 20))]
+[(1,), (2, 1), (), 4, 8, 3, 1, True]
+>>> from wordshapes.mixtures import Mixture
+>>> one, two = Mixture((((1,), (1, 1)),)), Mixture((((2,), (1, 1)),))
+>>> [(one * two).terms, (two * two).terms, Mixture.of("powers", (((2,), (1, 1)),)).terms, (one * one).written("powers"), two.written("monomials"), two.flip().terms]
+[(((2, 1), (1, 1)), ((3,), (1, 1))), (((2, 2), (1, 1)), ((3, 1), (1, 1)), ((4,), (1, 1))), (((1, 1), (-1, 1)), ((2,), (1, 1))), (((1, 1), (1, 1)),), (((1, 1), (1, 1)), ((2,), (1, 1))), (((1, 1), (1, 1)),)]
+>>> [two.value((1, 1, 1)), two.written("powers"), two.written("columns"), (one * one).held(two), (two - two).degree, bool(two - two), two.scaled((1, 2)).terms, two.value(())]
+[(6, 1), (((1, 1), (1, 2)), ((2,), (1, 2))), (((1, 1), (1, 1)), ((2,), (-1, 1))), (1, 1), None, False, (((2,), (1, 2)),), (0, 1)]
+>>> from wordshapes.ballots import ballot_count, ballot_fillings, is_ballot
+>>> [is_ballot((2, 1, 2, 1, 1)), is_ballot((1, 2)), is_ballot(()), ballot_fillings((3, 2), (2, 1), (1, 1))[0].rows, ballot_count((3, 2, 1), (2, 1), (2, 1)), ballot_count((3, 2), (2, 1), (2,))]
+[True, False, True, ((1,), (2,)), 2, 1]
+>>> from wordshapes.hives import hive_count, hive_of, hives, skew_of
+>>> part = ballot_fillings((3, 2), (2, 1), (1, 1))[0]
+>>> [hives((2, 1), (1, 1), (3, 2)), hive_of(part), skew_of(hive_of(part)) == part, hive_count((2, 1), (2, 1), (3, 2, 1)), hives((1,), (1,), (1, 1))]
+[(((0, 3, 5), (2, 4), (3,)),), ((0, 3, 5), (2, 4), (3,)), True, 2, (((0, 1, 2), (1, 2), (1,)),)]
+>>> from wordshapes.joins import join_count, joined, pairs_for, skew_terms
+>>> from wordshapes.tables import Table
+>>> [join_count((2, 1), (2, 1), (3, 2, 1)), join_count((2,), (1,), (4,)), joined((2, 1), (1, 1)), skew_terms((3, 2), (2,)), skew_terms((2, 1), (1,))]
+[2, 0, (((2, 1, 1, 1), 1), ((2, 2, 1), 1), ((3, 1, 1), 1), ((3, 2), 1)), (((2, 1), 1), ((3,), 1)), (((1, 1), 1), ((2,), 1))]
+>>> [len(pairs_for(Table(((1, 2), (3,))), (2,), (1,))), pairs_for(Table(((1, 2), (3,))), (2,), (1,))[0] == (Table(((1, 3),)), Table(((2,),)))]
+[1, True]
+>>> from wordshapes.squares import is_square, order_of, sides, square_of
+>>> [square_of((2, 1)), is_square(square_of(mid)), order_of(square_of((5, 3))), sides(square_of((2, 2))), is_square(((), ()))]
+[(((), (), ()), ((), (), (1,)), ((), (1,), (1, 1))), True, (2, 1), (((), (1,), (2,)), ((), (1,), (2,))), False]
 """
 
 
@@ -79,7 +127,7 @@ class Examples(unittest.TestCase):
             elif line != source:
                 looked_at += 1
                 self.assertEqual(told(source, names), behind, source)
-        self.assertEqual(looked_at, 20)
+        self.assertEqual(looked_at, 37)
 
 
 if __name__ == "__main__":

@@ -20,7 +20,7 @@ BARRED = (
     ast.Global, ast.AsyncFunctionDef, ast.Yield, ast.YieldFrom, ast.Div, ast.SetComp, ast.Set, ast.Try, ast.With,
     ast.GeneratorExp, ast.AnnAssign, ast.Delete,
 )
-SPECIAL = {"__init__", "__eq__", "__repr__"}
+SPECIAL = {"__init__", "__eq__", "__repr__", "__bool__", "__add__", "__sub__", "__mul__"}
 
 
 def bound_names(tree):

@@ -52,7 +52,7 @@ WORDS = NO_TUPLES + NO_LETTERS_IN + [TABLE, (1,) * 13, tuple(range(1, 14)), (1,)
 
 def numbers(low, high):
     """What is no integer from the one number to the other one."""
-    return NO_NUMBERS + [low - 1, high + 1, -100, 100, HUGE, -HUGE]
+    return NO_NUMBERS + [value for value in (low - 1, high + 1, -100, 100, HUGE, -HUGE) if not low <= value <= high]
 
 
 LETTERS = numbers(1, 12)
@@ -66,6 +66,27 @@ def shapes(most):
         (most + 1,), (1,) * (most + 1), (most, 1), (1,) * 10000, (2, 1, 1, 0), DEEP,
     ]
 
+
+# Shapes are amounts, and so are words.
+AMOUNTS = NO_TUPLES + [
+    TABLE, (-1,), (2, -1), (1, 0, -1), (True,), (False,), (1, True), (1, False), (None,), (1, None), ("1",), (1, "1"), ((1,),), (1, (1,)),
+    ((),), ([1],), ({},), (b"\x01",), (-HUGE,), (1, -HUGE), (1j,), (Stranger(),), (1, Stranger()), (0,) * 13, (1,) * 13, (0,) * 10000, DEEP,
+]
+
+NO_FRACTIONS = [value for value in NO_NUMBERS if not (isinstance(value, tuple) and value == (1, 1))] + [
+    0, 1, -1, HUGE, (0, 0), (1, 0), (0, 2), (2, 2), (2, 4), (6, 4), (-2, 4), (1, -1), (-1, -1), (1, -2), (True, 1), (1, True), (False, 1),
+    (0, True), (1, 2, 3), (1, None), (None, 1), ("1", 1), (1, "1"), "12", b"\x01\x02", [1, 2], ((1, 2),), ((1,), (2,)), (1, (2,)), {1: 2, 3: 4},
+    (HUGE, HUGE), (HUGE, -1), (1, -HUGE), (HUGE, 0), (2 * HUGE, 2), (1j, 1), (1, 1j), (Stranger(), 1), (1, Stranger()), ([1], 2),
+]
+ONE = (1, 1)
+TERMS = NO_TUPLES + [
+    (1,), (1, 2), ((),), ((1,),), ((1,), ONE), (((1,), ONE, ONE),), (((1,),),), ([(1,), ONE],), ([((1,), ONE)],), ((ONE, (1,)),), ("12",), (None,),
+    (((1,), (0, 1)),), (((1,), ONE), ((2,), (0, 1))), (((2,), ONE), ((1,), ONE)), (((1,), ONE), ((1,), ONE)), (((1,), ONE), ((1,), (2, 1))),
+    (((1,), ONE), ((), ONE)), (((2,), ONE), ((1, 1), ONE)), (((9,), ONE),), (((1,) * 9, ONE),), (((8, 1), ONE),), (((1, 2), ONE),),
+    (((0,), ONE),), (((1, 0), ONE),), (((True,), ONE),), (((2, True), ONE),), (([1], ONE),), (([], ONE),), ((None, ONE),), ((1, ONE),),
+    (("1", ONE),), ((HUGE, ONE),), (((HUGE,), ONE),), (((-1,), ONE),), (((1,), 1),), (((1,), ONE),) * 5000, ((TABLE, ONE),), (TABLE,),
+    {((1,), ONE): 1}, [((1,), ONE)], (((1,), ONE), None), (((1,), ONE), ((2,), 1)), (((1,), ONE), ((2,),)), (((1,), ONE), "ab"), DEEP,
+] + [(((1,), value),) for value in NO_FRACTIONS] + [(((), ONE), ((1,), value)) for value in NO_FRACTIONS]
 
 NO_TABLES = NO_TUPLES + [(), (1,), ((1, 1), (2,)), ((1,),), TABLE.rows, TABLE.word, DEEP]
 NO_SKEWS = [value for value in NO_TABLES if value is not SKEW] + [TABLE, (SKEW.inner, SKEW.rows)]

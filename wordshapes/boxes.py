@@ -1,5 +1,7 @@
 """Shapes of any size, as boxes, without a look for errors: skews have more boxes than shapes elsewhere."""
 
+from math import factorial
+
 
 def corners_of(shape):
     """The corner rows, ascending."""
@@ -36,3 +38,28 @@ def columns_of(shape):
 def holes_ahead(inner, many):
     """How many holes of an inner shape stand ahead in each of so many rows."""
     return inner + (0,) * (many - len(inner))
+
+
+def is_inside(inner, outer):
+    """Whether all boxes of the inner shape are among those of the outer one."""
+    return len(inner) <= len(outer) and all([part <= wide for part, wide in zip(inner, outer)])
+
+
+def hook_of(shape, row, column):
+    """How many boxes the hook of a box has."""
+    below = [part for part in shape[row + 1:] if part > column]
+    return shape[row] - column + len(below)
+
+
+def product_of_hooks(shape):
+    """The product of the numbers of boxes of all hooks."""
+    hooks = 1
+    for row, wide in enumerate(shape):
+        for column in range(wide):
+            hooks *= hook_of(shape, row, column)
+    return hooks
+
+
+def standard_count(shape):
+    """How many standard tables a shape has: the orders of its size over the product of all hooks."""
+    return factorial(sum(shape)) // product_of_hooks(shape)

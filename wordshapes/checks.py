@@ -1,8 +1,9 @@
 """Tells integers, letters, words, shapes and rows from other values, and raises the errors for these."""
 
 from wordshapes.boxes import holes_ahead
-from wordshapes.errors import InvalidLetter, InvalidNumber, InvalidShape, InvalidWord
-from wordshapes.limits import MOST_LETTER, MOST_LONG
+from wordshapes.errors import InvalidAmounts, InvalidIndex, InvalidLetter, InvalidNumber, InvalidShape, InvalidWord
+from wordshapes.errors import TooMany
+from wordshapes.limits import MOST_LETTER, MOST_LISTED, MOST_LONG
 
 
 def is_integer(value):
@@ -52,6 +53,13 @@ def is_shape(value, most):
     return rises_slowly(value[::-1]) and sum(value) <= most
 
 
+def are_amounts(value):
+    """Whether it is a tuple of numbers of letters 1, 2 and so on."""
+    if not isinstance(value, tuple) or len(value) > MOST_LETTER:
+        return False
+    return all([is_integer(amount) and amount >= 0 for amount in value])
+
+
 def is_filled(inner, rows):
     """Whether the rows of letters make a skew with this inner shape, a table where it is ()."""
     if not isinstance(rows, tuple) or not all([is_lettered(row) for row in rows]):
@@ -82,6 +90,12 @@ def check_letter(value):
         raise InvalidLetter(value)
 
 
+def check_low_letter(value):
+    """Raises an error for what is no letter that has a next one."""
+    if not is_between(value, 1, MOST_LETTER - 1):
+        raise InvalidLetter(value)
+
+
 def check_shape(value, most=MOST_LONG):
     """Raises an error for what is no shape of so many boxes at most."""
     if not is_shape(value, most):
@@ -97,3 +111,21 @@ def check_number(value, low, high):
 def check_most(value, letters):
     """Raises an error for what is no letter, or less than one of these letters."""
     check_number(value, max([1, *letters]), MOST_LETTER)
+
+
+def check_amounts(value):
+    """Raises an error for what is no tuple of numbers of letters."""
+    if not are_amounts(value):
+        raise InvalidAmounts(value)
+
+
+def check_index(value, many):
+    """Raises an error for what is no index of so many things."""
+    if not is_between(value, 0, many - 1):
+        raise InvalidIndex(value)
+
+
+def check_listed(many):
+    """Raises an error if so many things are too many to be listed."""
+    if many > MOST_LISTED:
+        raise TooMany(MOST_LISTED)

@@ -1,11 +1,9 @@
 """Moves: exchanges in three neighbouring letters, and the words that are alike through them."""
 
-from math import factorial
-
+from wordshapes.boxes import standard_count
 from wordshapes.checks import check_word, is_index
 from wordshapes.errors import InvalidPlace, NoMove, TooMany
 from wordshapes.limits import MOST_MOVED
-from wordshapes.shapes import hook
 from wordshapes.tables import Table
 
 
@@ -103,10 +101,5 @@ def class_of(word):
 def class_count(word):
     """How many words are alike with a word."""
     check_word(word)
-    shape = Table.of(word).shape
-    hooks = 1
-    for row, wide in enumerate(shape):
-        for column in range(wide):
-            hooks *= hook(shape, row, column)
-    # There are as many standard tables of the shape: the orders of its size over the product of all hooks.
-    return factorial(len(word)) // hooks
+    # A word is told by its table and any standard table of the shape of it.
+    return standard_count(Table.of(word).shape)

@@ -1,9 +1,10 @@
 """Shapes of up to 40 boxes: their rows, their hooks, which is heavier, and strips."""
 
-from wordshapes.boxes import box_less, box_more, columns_of, corners_of, outers_of
+from wordshapes.boxes import box_less, box_more, columns_of, corners_of, hook_of, is_inside, outers_of
 from wordshapes.checks import check_number, check_shape, is_among, is_between, is_index
 from wordshapes.errors import InvalidPlace, InvalidRow, TooMany, UnlikeSizes
 from wordshapes.limits import MOST_BOXES, MOST_DEGREE, MOST_LONG
+from wordshapes.strips import strips_on
 
 
 def shapes_of(size):
@@ -33,7 +34,7 @@ def holds(outer, inner):
     """Whether all boxes of the inner shape are among those of the outer one."""
     check_shape(outer, MOST_BOXES)
     check_shape(inner, MOST_BOXES)
-    return len(inner) <= len(outer) and all([wide >= part for wide, part in zip(outer, inner)])
+    return is_inside(inner, outer)
 
 
 def corner_rows(shape):
@@ -126,19 +127,6 @@ def check_strip(shape, size):
         raise TooMany(MOST_BOXES)
 
 
-def strips_on(shape, size):
-    """The shapes that come from it by row strips: no row grows beyond the former end of the row above."""
-    begun = [((), size)]
-    for row, part in enumerate(shape + (0,)):
-        room = shape[row - 1] - part if row else size
-        begun = [
-            (parts + (part + more,), left - more)
-            for parts, left in begun
-            for more in range(min(room, left), -1, -1)
-        ]
-    return tuple([tuple([part for part in parts if part]) for parts, left in begun if left == 0])
-
-
 def hook(shape, row, column):
     """How many boxes the hook of a box has."""
     check_shape(shape, MOST_BOXES)
@@ -146,5 +134,4 @@ def hook(shape, row, column):
         raise InvalidRow(row)
     if not is_between(column, 0, shape[row] - 1):
         raise InvalidPlace(column)
-    below = [part for part in shape[row + 1:] if part > column]
-    return shape[row] - column + len(below)
+    return hook_of(shape, row, column)
