@@ -20,7 +20,7 @@ NUMBERS = [
     (1000, -999, 998, -1000), (0, 0, 1, -1),
 ]
 NO_MIXTURES = NO_TUPLES + [(), 1, (1, 1), (((1,), (1, 1)),), Mixture, Table(()), TABLE, SKEW]
-NO_BASES = [value for value in NO_TUPLES if value != "shapes"] + [
+NO_BASES = NO_TUPLES + [
     "shape", "Shapes", "SHAPES", "shapes ", " shapes", "", "power", "monomial", "row", "column", "s", "shapes\n", ("shapes",), ["rows"],
     b"rows", ("rows", "columns"), "rowscolumns", (), ((("rows",),),),
 ]

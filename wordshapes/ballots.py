@@ -34,10 +34,10 @@ def fillings_between(outer, inner, amounts):
     check_amounts(amounts)
     if not is_inside(inner, outer):
         raise NotInside()
-    return fillings_of(outer, inner, amounts)
+    return ballot_skews(outer, inner, amounts)
 
 
-def fillings_of(outer, inner, amounts):
+def ballot_skews(outer, inner, amounts):
     """The ballot fillings, ascending by their rows; none if the shapes or the amounts do not fit one another."""
     if not is_inside(inner, outer) or sum(inner) + sum(amounts) != sum(outer):
         return []

@@ -1,6 +1,6 @@
 """Hives: triangles of numbers to which ballot fillings belong, one by one."""
 
-from wordshapes.ballots import fillings_of, is_ballot
+from wordshapes.ballots import ballot_skews, is_ballot
 from wordshapes.checks import check_listed, is_integer, is_shape
 from wordshapes.errors import InvalidHive, InvalidHoles, InvalidShape
 from wordshapes.limits import MOST_LONG, MOST_ROWS
@@ -24,7 +24,7 @@ def skews_of_sides(first, second, third):
     for shape in (first, second, third):
         if not is_side(shape):
             raise InvalidShape(shape)
-    return fillings_of(third, first, second)
+    return ballot_skews(third, first, second)
 
 
 def is_side(value):
@@ -74,7 +74,7 @@ def skews_beside(value):
     third = steps_of(list(value[0]))
     if not all([is_side(shape) for shape in (first, second, third)]):
         return []
-    return fillings_of(third, first, second)
+    return ballot_skews(third, first, second)
 
 
 def is_triangle(value):

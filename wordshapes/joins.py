@@ -1,6 +1,6 @@
 """Join counts: how often shapes come in products and in shapes with holes, and products with a told table."""
 
-from wordshapes.ballots import fillings_of
+from wordshapes.ballots import ballot_skews
 from wordshapes.boxes import is_inside
 from wordshapes.checks import check_shape
 from wordshapes.errors import NotInside, TooMany
@@ -15,7 +15,7 @@ def join_count(first, second, third):
     check_shape(first)
     check_shape(second)
     check_shape(third)
-    return len(fillings_of(third, first, second))
+    return len(ballot_skews(third, first, second))
 
 
 def joined(first, second):
@@ -25,7 +25,7 @@ def joined(first, second):
     if sum(first) + sum(second) > MOST_LONG:
         raise TooMany(MOST_LONG)
     thirds = shapes_of(sum(first) + sum(second))
-    return counted([(third, len(fillings_of(third, first, second))) for third in thirds])
+    return counted([(third, len(ballot_skews(third, first, second))) for third in thirds])
 
 
 def skew_terms(outer, inner):
@@ -35,7 +35,7 @@ def skew_terms(outer, inner):
     if not is_inside(inner, outer):
         raise NotInside()
     seconds = shapes_of(sum(outer) - sum(inner))
-    return counted([(second, len(fillings_of(outer, inner, second))) for second in seconds])
+    return counted([(second, len(ballot_skews(outer, inner, second))) for second in seconds])
 
 
 def counted(pairs):
@@ -48,16 +48,16 @@ def pairs_for(table, first, second):
     check_table(table)
     check_shape(first)
     check_shape(second)
-    pairs = [factors_of(table, skew) for skew in fillings_of(table.shape, first, second)]
+    pairs = [factors_of(table, skew) for skew in ballot_skews(table.shape, first, second)]
     return tuple(sorted(pairs, key=lambda pair: (pair[0].rows, pair[1].rows)))
 
 
 def factors_of(table, skew):
     """The pair of tables whose product is a table that belongs to a ballot filling inside its shape.
 
-    The boxes of the filling are those that become new when the letters of the second factor are put
-    into the first one: all words that leave the same letters at their new boxes make tables of one
-    shape, which is that of the amounts for a ballot filling.
+    The filling tells which boxes become new, and when, if a word of the second factor is put into the
+    first one. So its letters come out of the table, the newest first, and the first factor is left; the
+    second one has the amounts as its shape just because the filling is a ballot filling.
     """
     rows, letters = table.rows, ()
     for _, row in boxes_by_age(skew):

@@ -112,7 +112,8 @@ def web_of(word, most):
     """All words of the web with letters up to a number, ascending."""
     check_web(word, most)
     # All of the web comes of its highest word by lowering alone.
-    found, waiting = {highest(word): True}, [highest(word)]
+    top = highest(word)
+    found, waiting = {top: True}, [top]
     while waiting:
         for below in one_lower(waiting.pop(), most):
             if below not in found:

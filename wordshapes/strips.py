@@ -24,7 +24,7 @@ def strips_within(shape, size, outer):
             for longer, left in begun
             for more in range(min(rooms[row], left), max(0, left - below) - 1, -1)
         ]
-    return tuple([tuple([part for part in longer if part]) for longer, left in begun if left == 0])
+    return tuple([tuple([kept for kept in longer if kept]) for longer, left in begun if left == 0])
 
 
 def stack_counts(inner, outer, amounts):

@@ -138,7 +138,7 @@ def shape_in_rows(shape):
                 if column not in used:
                     passed = [other for other in used if other > column]
                     boxes = part + column - row
-                    key = (used + (column,), with_part(parts, boxes))
+                    key = (tuple(sorted(used + (column,))), with_part(parts, boxes))
                     grown[key] = grown.get(key, 0) + (number if len(passed) % 2 == 0 else -number)
         numbers = grown
     return [(parts, number) for (_, parts), number in numbers.items()]

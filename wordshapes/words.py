@@ -14,7 +14,7 @@ def amounts(word):
 def standing(word):
     """The order with the number of each letter, counted off by size, then from the left."""
     check_word(word)
-    counted = [place for _, place in sorted([(letter, place) for place, letter in enumerate(word)])]
+    counted = [place for _, place in sorted([(letter, at) for at, letter in enumerate(word)])]
     return tuple([counted.index(place) + 1 for place in range(len(word))])
 
 
