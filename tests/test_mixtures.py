@@ -219,9 +219,11 @@ class Working(unittest.TestCase):
         same_by_name(self, some(3).held, other=some(4))
 
     def test_monomials_held_against_rows(self):
-        for first, second in product(SMALL, SMALL):
-            told = Mixture.of("monomials", ((first, (1, 1)),)).held(Mixture.of("rows", ((second, (1, 1)),)))
-            self.assertEqual(told, (int(first == second), 1))
+        monomials, rows = [
+            {shape: Mixture.of(basis, ((shape, (1, 1)),)) for shape in ALL} for basis in ("monomials", "rows")
+        ]
+        for first, second in product(ALL, ALL):
+            self.assertEqual(monomials[first].held(rows[second]), (int(first == second), 1))
 
 
 class Values(unittest.TestCase):

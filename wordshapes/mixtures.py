@@ -103,6 +103,7 @@ def shapes_at(numbers):
         for shape, worth in worths.items():
             for size in range(MOST_DEGREE - sum(shape) + 1):
                 for longer in strips_on(shape, size):
-                    grown[longer] = grown.get(longer, 0) + worth * number ** size
+                    grown[longer] = grown.get(longer, 0) + worth
+                worth = worth * number
         worths = grown
     return worths

@@ -74,7 +74,8 @@ def cycle_weight(cycle):
     """The product of the numbers of a cycle shape and of the factorials of how often each of them is there."""
     check_shape(cycle, MOST_BOXES)
     weight = 1
+    for number in cycle:
+        weight *= number
     for number in sorted(set(cycle)):
-        often = cycle.count(number)
-        weight *= number ** often * factorial(often)
+        weight *= factorial(cycle.count(number))
     return weight
