@@ -14,13 +14,18 @@ CALLED = {
 RAISED = {"ValueError", "LookupError", "ArithmeticError", "TypeError"}
 METHODS = {
     "append", "clear", "copy", "count", "endswith", "extend", "find", "get", "index", "insert", "isdigit", "items", "join",
-    "keys", "pop", "remove", "replace", "reverse", "setdefault", "split", "startswith", "strip", "update", "values",
+    "keys", "partition", "pop", "remove", "replace", "reverse", "setdefault", "split", "startswith", "strip", "update", "values",
 }
 BARRED = (
-    ast.Global, ast.AsyncFunctionDef, ast.Yield, ast.YieldFrom, ast.Div, ast.SetComp, ast.Set, ast.Try, ast.With,
-    ast.GeneratorExp, ast.AnnAssign, ast.Delete,
+    ast.Global, ast.AsyncFunctionDef, ast.Yield, ast.YieldFrom, ast.Div, ast.SetComp, ast.Set, ast.GeneratorExp, ast.AnnAssign, ast.Delete,
+    ast.NamedExpr, ast.Match,
 )
-SPECIAL = {"__init__", "__eq__", "__repr__", "__bool__", "__add__", "__sub__", "__mul__"}
+SPECIAL = {
+    "__init__", "__eq__", "__repr__", "__bool__", "__add__", "__sub__", "__mul__", "__enter__", "__exit__", "__setitem__", "__getitem__", "__iter__",
+    "__contains__", "__len__",
+}
+# Names that stand for what is used up or changes: they are iterated on the spot, or not at all.
+ITERATED = {"zip", "enumerate", "range", "reversed"}
 
 
 def bound_names(tree):
@@ -76,6 +81,57 @@ class Language(unittest.TestCase):
             self.assertEqual([bound.count(each) for each in sorted(classes)], [1] * len(classes), name)
             used = {node.id for node in ast.walk(tree) if isinstance(node, ast.Name)}
             self.assertLessEqual(own, used, name)
+
+    def test_names_come_from_the_files_that_define_them(self):
+        trees = dict(self.trees())
+        defined = {
+            name: {node.name for node in tree.body if isinstance(node, (ast.FunctionDef, ast.ClassDef))}
+            | {target.id for node in tree.body if isinstance(node, ast.Assign) for target in node.targets}
+            for name, tree in trees.items()
+        }
+        needs = {}
+        for name, tree in trees.items():
+            sources = [node for node in tree.body if isinstance(node, ast.ImportFrom) and node.module != "math"]
+            for node in sources:
+                self.assertLessEqual({alias.name for alias in node.names}, defined[node.module.removeprefix("wordshapes.") + ".py"], name)
+            needs[name] = {node.module.removeprefix("wordshapes.") + ".py" for node in sources}
+        while needs:
+            free = [name for name, others in needs.items() if not others & set(needs)]
+            self.assertTrue(free, needs)
+            needs = {name: others for name, others in needs.items() if name not in free}
+
+    def test_trials_and_errors(self):
+        for name, tree in self.trees():
+            for node in ast.walk(tree):
+                if isinstance(node, ast.ExceptHandler):
+                    self.assertLessEqual({each.id for each in node.type.elts}, {"WrongValue", "WrongName", "NoAnswer"}, name)
+                if isinstance(node, ast.Try):
+                    self.assertEqual([node.finalbody, node.orelse], [[], []], name)
+                if isinstance(node, ast.With):
+                    self.assertEqual([ast.unparse(item.context_expr) for item in node.items], ["self.trial()"], name)
+                if isinstance(node, ast.FunctionDef) and node.name == "__exit__":
+                    for row in node.body:
+                        self.assertIsInstance(row, ast.Assign)
+                        self.assertIsInstance(row.value, ast.Attribute)
+                        self.assertIsInstance(row.targets[0], ast.Attribute)
+                if isinstance(node, ast.Raise) and node.exc is not None:
+                    self.assertIsInstance(node.exc, ast.Call)
+
+    def test_methods_and_attributes(self):
+        for name, tree in self.trees():
+            for node in [node for node in tree.body if isinstance(node, ast.ClassDef)]:
+                methods = [each.name for each in node.body if isinstance(each, ast.FunctionDef)]
+                stored = {each.attr for each in ast.walk(node) if isinstance(each, ast.Attribute) and isinstance(each.ctx, ast.Store)}
+                self.assertEqual([len(set(methods)), set(methods) & stored], [len(methods), set()], (name, node.name))
+                self.assertFalse({"keys", "items", "values", "pop", "update", "sort", "args"} & (stored | set(methods)), name)
+
+    def test_what_is_used_up_is_iterated_on_the_spot(self):
+        for name, tree in self.trees():
+            for node in ast.walk(tree):
+                if isinstance(node, ast.Assign) and isinstance(node.value, ast.Call) and isinstance(node.value.func, ast.Name):
+                    self.assertNotIn(node.value.func.id, ITERATED, (name, node.lineno))
+                if isinstance(node, ast.Return) and isinstance(node.value, ast.Call) and isinstance(node.value.func, ast.Name):
+                    self.assertNotIn(node.value.func.id, ITERATED, (name, node.lineno))
 
     def test_names(self):
         for name, tree in self.trees():

@@ -99,6 +99,43 @@ ROWS = [value for value in NO_TUPLES if value is not TABLE] + [
     ((1,) * 7, (2,) * 6), ((HUGE,),), ((-HUGE,),), ((1, HUGE),), ((-1,),), ({},), ({1: 1},), ((),) * 5000, (TABLE,), DEEP,
 ]
 
+PATTERNS = NO_TUPLES + [
+    TABLE, (), (1,), (1, 2), ((),), ((1, 1),), ((1,), (1,)), ((1,), (1, 0, 0)), ((1,), (1, 0), (1, 0)), ((13,),), ((-1,),), ((True,),), ((False,),),
+    ((None,),), (None,), (["1"],), ("1",), (b"\x01",), ((1,), "10"), ((1,), b"\x01\x00"), ((1,), [1, 0]), [(1,), (1, 0)], ([1], [1, 0]), ((1,), (0, 0)),
+    ((1,), (0, 1)), ((1,), (2, 2)), ((0,), (1, 1)), ((3,), (2, 1)), ((1,), (True, 0)), ((1,), (1, False)), ((1,), (1, -1)), ((7,), (7, 6)),
+    ((12,), (12, 1)), ((2,), (2, 1), (2, 0, 0)), ((2,), (2, 1), (1, 1, 0)), ((2,), (3, 1), (3, 2, 1), (2, 2, 1, 0)), ((HUGE,),), ((-HUGE,),),
+    ((1,), (HUGE, 0)), ((1,), (1, -HUGE)), ((1,), {1: 0, 0: 1}), ({0: 1},), ((1j,),), ((Stranger(),),), (Stranger(),), ((1,), Stranger()), (TABLE,),
+    tuple((0,) * many for many in range(1, 14)), tuple((0,) * many for many in range(0, 4)), tuple((0,) * many for many in range(2, 5)),
+    tuple((0,) * many for many in range(3, 0, -1)), ((0,),) * 5000, ((1,) * 5000,), (((1,),),), DEEP,
+]
+HIDDEN = NO_TUPLES + [
+    TABLE, (0,), (13,), (-1,), (HUGE,), (True,), (False,), (None,), ("1",), (b"\x01\x02",), ("12",), ([1, 2],), ({1: 2, 2: 3},), ((),), ((1,),), ((12,),),
+    ((1, 1),), ((2, 1),), ((1, 2, 2),), ((1, 3, 2),), ((0, 1),), ((12, 13),), ((1, True),), ((False, 1),), ((1, None),), ((1, "2"),), ((1, (2, 3)),),
+    (((1, 2),),), (1, (1, 2), 0), (1, (1, 2), (2,)), (1,) * 13, ((1, 2),) * 13, (1,) * 10000, ((1, HUGE),), ((-HUGE, 1),), (tuple(range(1, 14)),),
+    (tuple(range(12)),), (1j,), ((1, 1j),), (Stranger(),), ((1, Stranger()),), (1, 2, TABLE), (SKEW,), DEEP,
+]
+
+NO_TEXTS = [value for value in NO_TUPLES if not isinstance(value, str)] + [(), (1,), TABLE, ("write 1",), ["write 1"], b"write 1", b"erase", DEEP]
+NAMES = NO_TEXTS + [
+    "", "A", "aB", "a1", "1", "a b", " a", "a ", "a\n", "\n", "a-b", "a.b", "abcdefghi", "toolongname", "a" * 4000, "{a}", "~", "a_b", "_", "-", "=",
+    ("a",), ["a"], b"a", {"a": 1}, {"a"}, ("a", "b"),
+]
+
+CLAIMS = NO_TUPLES + [
+    TABLE, (), (1,), ("alike",), ("alike", "v"), ("alike", "v", "w", "v"), ("web", "v"), ("web",), ("heavier", "v"), ("heavier", "v", "w", 1),
+    ("shape",), ("shape", "v"), ("shape", "v", (2, 1), 1), ("highest",), ("highest", "v", "w"), ("highest", "v", ()), ("rising", "v"), ("rising", "v", 1),
+    ("rising", "v", 1, 2, 3), ("falling", "v", 1), ("falling",), ("Alike", "v", "w"), ("alik", "v", "w"), ("", "v", "w"), ("grows", "v", (2, 1)),
+    ("lighter", "v", "w"), ("joins", "v", "w"), ("slides", "v"), (None, "v", "w"), (b"alike", "v", "w"), (1, "v", "w"), (("alike",), "v", "w"),
+    (["alike"], "v", "w"), ({}, "v", "w"), (Stranger(), "v", "w"), ["alike", "v", "w"], ["highest", "v"], {"highest": "v"}, "highest v",
+] + [("shape", "v", value) for value in shapes(12)] + [
+    (sort, "v", value, 2) for sort in ("rising", "falling") for value in numbers(1, 12)
+] + [(sort, "v", 1, value) for sort in ("rising", "falling") for value in numbers(0, 12)]
+DEEDS = [value for value in CLAIMS if value not in ([], [1])] + [
+    ("set",), ("set", "v"), ("set", "v", (1,), (2,)), ("drop",), ("drop", "v", "w"), ("claim",), ("claim", ("highest", "v"), 1), ("lift",), ("lift", 0, 1),
+    ("Set", "v", (1,)), ("put", "v", (1,)), ("undo",), ("", "v"), ("claim", "highest", "v"), (None, "v"), (b"set", "v", (1,)), ["set", "v", (1,)],
+    ["drop", "v"], {"drop": 1, "v": 2}, "drop v", (("drop",), "v"), (["drop"], "v"), (Stranger(), "v"), (0, 1), ("set", ("v", (1,))), ("tried", "v"),
+]
+
 
 def raised(action, *given, **named):
     """What calling a function raises; None if nothing."""

@@ -9,14 +9,17 @@ from wordshapes.tables import Table, check_table, rows_with, rows_without
 def pair_of(word):
     """The first and the second table of a word."""
     check_word(word)
-    return grown([(number, letter) for number, letter in enumerate(word, start=1)])
+    return grown(list(enumerate(word, start=1)), rows_with)
 
 
-def grown(pairs):
-    """The table of the lower letters of pairs, and that which has the upper ones at the boxes that become new."""
+def grown(pairs, step):
+    """The table into which the step puts the lower letters of pairs, and that which has the upper ones at new boxes.
+
+    The step tells the rows of a table into which a letter has been put, and the row of the new box.
+    """
     first, second = (), ()
     for upper, lower in pairs:
-        first, row = rows_with(first, lower)
+        first, row = step(first, lower)
         if row == len(second):
             second = second + ((upper,),)
         else:
@@ -59,7 +62,7 @@ def boxes_by_age(second):
 def pair_of_array(array):
     """The first and the second table of an array."""
     check_array(array)
-    return grown(array)
+    return grown(array, rows_with)
 
 
 def array_of(first, second):

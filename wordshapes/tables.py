@@ -4,6 +4,7 @@ from wordshapes.boxes import corners_of
 from wordshapes.checks import check_letter, check_number, check_word, is_among, is_filled
 from wordshapes.errors import InvalidRow, InvalidRows, NotATable, TooMany
 from wordshapes.limits import MOST_LETTER, MOST_LONG
+from wordshapes.texts import numbers_told
 from wordshapes.words import amounts, is_standard, word_text
 
 
@@ -78,6 +79,14 @@ def check_table(value):
     """Raises an error for what is no table."""
     if not isinstance(value, Table):
         raise NotATable(value)
+
+
+def table_told(text):
+    """The table that a text is; None if it is none."""
+    if text == "-":
+        return Table(())
+    rows = tuple([numbers_told(part, MOST_LETTER) for part in text.split("/")])
+    return Table(rows) if is_filled((), rows) else None
 
 
 def word_of_rows(rows):

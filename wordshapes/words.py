@@ -1,8 +1,9 @@
 """Words: their amounts, their standings and descents, inverses of orders, and texts."""
 
-from wordshapes.checks import check_most, check_word
+from wordshapes.checks import check_most, check_word, is_word
 from wordshapes.errors import InvalidText, NotStandard
-from wordshapes.limits import MOST_LETTER, MOST_LONG
+from wordshapes.limits import MOST_LETTER
+from wordshapes.texts import numbers_told
 
 
 def amounts(word):
@@ -23,11 +24,16 @@ def is_standard(letters):
     return sorted(letters) == list(range(1, len(letters) + 1))
 
 
+def check_order(value):
+    """Raises an error for what is no word, or no order."""
+    check_word(value)
+    if not is_standard(value):
+        raise NotStandard()
+
+
 def inverse(order):
     """The order that has the places of 1, 2 and so on in an order, counted from 1."""
-    check_word(order)
-    if not is_standard(order):
-        raise NotStandard()
+    check_order(order)
     return tuple([order.index(number) + 1 for number in range(1, len(order) + 1)])
 
 
@@ -52,13 +58,13 @@ def word_text(word):
 
 def word_in(text):
     """The word with a text."""
-    if not isinstance(text, str):
+    word = word_told(text) if isinstance(text, str) else None
+    if word is None:
         raise InvalidText(text)
-    if text == "-":
-        return ()
-    # Compared with the one text that each letter has: so no zeros ahead, no signs and no blanks are taken.
-    letters = {str(letter): letter for letter in range(1, MOST_LETTER + 1)}
-    parts = text.split(".")
-    if len(parts) > MOST_LONG or not all([part in letters for part in parts]):
-        raise InvalidText(text)
-    return tuple([letters[part] for part in parts])
+    return word
+
+
+def word_told(text):
+    """The word that a text is; None if it is none."""
+    numbers = numbers_told(text, MOST_LETTER)
+    return numbers if is_word(numbers) else None
