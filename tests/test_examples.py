@@ -104,6 +104,63 @@ raises NotStandard()
 >>> from wordshapes.squares import is_square, order_of, sides, square_of
 >>> [square_of((2, 1)), is_square(square_of(mid)), order_of(square_of((5, 3))), sides(square_of((2, 2))), is_square(((), ()))]
 [(((), (), ()), ((), (), (1,)), ((), (1,), (1, 1))), True, (2, 1), (((), (1,), (2,)), ((), (1,), (2,))), False]
+>>> from wordshapes.sorting import braided, braids, exchanged_at, inversion_count, is_reduced, order_by, order_mixture
+>>> from wordshapes.sorting import reduced_count, reduced_rows, sorted_pair, sorted_row
+>>> [inversion_count((3, 2, 1)), exchanged_at((3, 2, 1), 2), order_by((1, 2, 1), 3), is_reduced((1, 2, 1)), is_reduced((1, 1)), reduced_rows((3, 2, 1)), reduced_count((4, 3, 2, 1)), braids((1, 3, 2, 3)), braided((1, 2, 1), 0)]
+[3, (3, 1, 2), (3, 2, 1), True, False, ((1, 2, 1), (2, 1, 2)), 16, (0, 1), (2, 1, 2)]
+>>> [sorted_pair((1, 2, 1))[0].text, sorted_pair((2, 1, 2))[0].text, sorted_pair((2, 1, 2))[1].text, sorted_row(Table(((1, 2), (2,))), Table(((1, 3), (2,)))), order_mixture((3, 2, 1)).terms, order_mixture((2, 1, 4, 3)).terms]
+['1.2/2', '1.2/2', '1.3/2', (2, 1, 2), (((2, 1), (1, 1)),), (((1, 1), (1, 1)), ((2,), (1, 1)))]
+>>> from wordshapes.marks import charge, cocharge, mark_numbers, marks, rounds, row_weight, settled, standard_marks
+>>> [charge((1, 2, 3)), charge((3, 2, 1)), charge((2, 1, 3)), charge((1, 1, 2, 2)), charge((2, 1, 1, 2)), cocharge((2, 1, 1, 2)), charge(()), settled((2, 2, 1)), charge((2, 2, 1))]
+[3, 0, 1, 2, 1, 1, 0, (1, 2, 1), 0]
+>>> [rounds((3, 1, 1, 2)), marks((3, 1, 1, 2)), rounds((2, 1, 1, 2)), row_weight((3, 2, 1)), mark_numbers((3, 1), (2, 1, 1)), mark_numbers((3, 1), (1, 2, 1)), mark_numbers((2, 2), (2, 2)), mark_numbers((2, 2), (3, 1)), standard_marks((2, 1)), standard_marks((2, 2))]
+[((2, 3, 0), (1,)), (1, 0, 0, 1), ((2, 0), (1, 3)), 4, (0, 1, 1), (0, 1, 1), (1,), (), (0, 1, 1), (0, 0, 1, 0, 1)]
+>>> marks((2, 2, 1))
+raises InvalidWord(given=(2, 2, 1))
+>>> from wordshapes.patterns import is_pattern, pattern_count, pattern_of, pattern_sum, pattern_toggled, patterns, table_of_pattern
+>>> from wordshapes.tables import Table
+>>> bent = Table(((1, 1, 3), (2,)))
+>>> [pattern_of(bent, 3), pattern_of(bent, 4)[3], table_of_pattern(((2,), (3, 1))).text, pattern_toggled(pattern_of(bent, 3), 2), table_of_pattern(((2,), (3, 0), (3, 1, 0))).text, pattern_toggled(((2,), (3, 1)), 1)]
+[((2,), (2, 1), (3, 1, 0)), (3, 1, 0, 0), '1.1.2/2', ((2,), (3, 0), (3, 1, 0)), '1.1.2/3', ((2,), (3, 1))]
+>>> [pattern_sum(((2,), (3, 1)), ((1,), (1, 0))), table_of_pattern(((3,), (4, 1))).text, patterns((2,), 2), pattern_count((2, 1), 3), pattern_count((1, 1, 1), 2), is_pattern(((2,), (1, 1))), is_pattern(((0,),))]
+[((3,), (4, 1)), '1.1.1.2/2', (((0,), (2, 0)), ((1,), (2, 0)), ((2,), (2, 0))), 8, 0, False, True]
+>>> pattern_toggled(((2,), (3, 1)), 2)
+raises InvalidRow(given=2)
+>>> from wordshapes.hidden import alike_fillings, fillings_of, fillings_with, letters_for, nearest, seen_shapes, seen_tables, sure_boxes, sure_descents
+>>> from wordshapes.tables import Table
+>>> veiled = (2, (1, 3), 1)
+>>> [fillings_of(veiled), seen_shapes(veiled), seen_tables(veiled)[1].text, sure_boxes(veiled), sure_descents(veiled), sure_descents((2, (1, 3), 3))]
+[((2, 1, 1), (2, 3, 1)), (((2, 1), 2),), '1.3/2', ((0, 0, 1), (1, 0, 2)), (), ()]
+>>> [letters_for(veiled, (2, 1)), letters_for(veiled, (3,)), fillings_with(veiled, Table(((1, 2), (3,)))), alike_fillings(veiled, (1, 2, 1)), nearest((2, 3, 1), Table(((1, 1), (2,)))), nearest((1,), Table(()))]
+[((2,), (1, 3), (1,)), None, ((2, 3, 1),), ((2, 1, 1),), (1, (2, 1, 1)), None]
+>>> from wordshapes.benches import Bench
+>>> bench = Bench()
+>>> [bench.write(2), bench.write(1), bench.write(2), bench.word, bench.table.text, bench.second.text, bench.lower_at(2), bench.word, bench.second.text, bench.move(0), bench.word, bench.table.text]
+[None, None, None, (2, 1, 2), '1.2/2', '1.3/2', None, (2, 1, 3), '1.3/2', None, (2, 3, 1), '1.3/2']
+>>> from wordshapes.logs import done, played
+>>> other = played(("write 2", "write 1", "write 2", "lower 2", "move 0"))
+>>> [other.word, other.log, done(other, "table 1.2/2"), other.word, other.changes, played(()).log]
+[(2, 3, 1), ('write 2', 'write 1', 'write 2', 'lower 2', 'move 0'), None, (2, 2, 1), 6, ()]
+>>> played(("write 2", "raise 2"))
+raises InvalidLog(index=1)
+>>> from wordshapes.books import Book
+>>> book = Book()
+>>> made = book.do_all(("set", "v", (2, 1, 2)), ("set", "w", (2, 2, 1)), ("claim", ("alike", "v", "w")), ("claim", ("shape", "v", (2, 1))), ("claim", ("rising", "w", 1, 2)))
+>>> [made, book.names, len(book.claims), book.changes, book.undo(), book.claims[-1][0]]
+[5, ('v', 'w'), 3, 5, None, 'shape']
+>>> book.do_all(("set", "w", (1, 2, 2)))
+raises Broken(index=0)
+>>> from wordshapes.certificates import certify_alike, certify_falling, certify_grows, certify_heavier, certify_joins, certify_rising, certify_web
+>>> from wordshapes.checker import accepts
+>>> papers = [certify_alike((2, 1, 2), (2, 2, 1)), certify_web((1, 2, 1), (2, 3, 2)), certify_rising(mid, 2), certify_heavier((3, 1), (2, 2)), certify_heavier((2, 2), (3, 1)), certify_joins((2, 1), (2, 1), (3, 2, 1)), certify_grows((2, 1))]
+>>> [papers[0][0][0], papers[1][0][0], papers[2][0][3], papers[3][0][0], papers[4], papers[5][0][4], papers[6][0][2], certify_alike((1, 2), (2, 1))]
+['alike', 'web', 5, 'heavier', (('lighter', (2, 2), (3, 1)), 1), 2, (1, 1), None]
+>>> [accepts(papers[0][0], papers[0][1]), accepts(papers[1][0], papers[1][1]), accepts(papers[2][0], papers[2][1]), accepts(papers[5][0], papers[5][1]), accepts(papers[6][0], papers[6][1]), accepts(("alike", (1, 2), (2, 1)), (0,)), accepts(("rising", mid, 1, 3), (((1, 3, 4),), ((0, 1), (2, 3), (4,))))]
+[True, True, True, True, True, False, True]
+>>> from wordshapes.console import Console
+>>> console = Console()
+>>> [console.say("w = 2.1.3.1.2"), console.say("w second"), console.say("w top"), console.say("v = 2.1.2.1.1"), console.say("w web v"), console.say("count 3.2"), console.say("join 2.1 2.1 3.2.1"), console.say("character 2.1 3"), console.say("w rising 1 3")]
+['1.1.2/2.3', '1.3.5/2.4', '2.1.2.1.1', '1.1.1/2.2', 'ok', '5', '2', '-1', 'ok']
 """
 
 
@@ -127,7 +184,7 @@ class Examples(unittest.TestCase):
             elif line != source:
                 looked_at += 1
                 self.assertEqual(told(source, names), behind, source)
-        self.assertEqual(looked_at, 37)
+        self.assertEqual(looked_at, 55)
 
 
 if __name__ == "__main__":
